@@ -1,0 +1,46 @@
+"""The calls on one copy, from the first to the last, and what they answer."""
+
+from owncopies.reader import Reader
+from owncopies.reading import known, length, text
+from owncopies.state import State
+from owncopies.writing import new, put, take
+
+NEW = 1
+LENGTH = 2
+TEXT = 3
+PUT = 4
+TAKE = 5
+KNOWN = 6
+
+
+class UnknownCall(ValueError):
+    pass
+
+
+def answers(calls):
+    state = State()
+    reader = Reader(calls)
+    given = []
+    while reader.has_more():
+        answer = answer_to(reader.number(), state, reader)
+        given.append(len(answer))
+        given.extend(answer)
+    return given
+
+
+def answer_to(call, state, reader):
+    if call == NEW:
+        return new(state, reader.number())
+    if call == LENGTH:
+        return length(state)
+    if call == TEXT:
+        return text(state)
+    if call == PUT:
+        at = reader.number()
+        return put(state, at, reader.row())
+    if call == TAKE:
+        at = reader.number()
+        return take(state, at, reader.number())
+    if call == KNOWN:
+        return known(state)
+    raise UnknownCall(f"no call has the number {call}")
