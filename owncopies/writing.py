@@ -1,11 +1,10 @@
 """The calls that change a copy at its own place: new, put and take."""
 
 from owncopies.refusals import NO_ROOM, WRONG
-from owncopies.state import BEGINNING, PEOPLE, PUTS, TAKES_OUT
-from owncopies.state import Change, has_room, learn, mark_of, shown_marks
+from owncopies.state import BEGINNING, LAST_CHARACTER, LAST_NUMBER, LAST_STAMP, PEOPLE, PUTS, TAKES_OUT
+from owncopies.state import Change, has_room, learn, number_of, shown_marks
 
 MOST_CHARACTERS = 4096
-LAST_CHARACTER = 0x10FFFF
 
 
 def new(state, who):
@@ -21,7 +20,7 @@ def put(state, at, characters):
         return [WRONG]
     if n > MOST_CHARACTERS or max(characters, default=0) > LAST_CHARACTER:
         return [WRONG]
-    if not has_room(state, n, n):
+    if not has_own_room(state, n, n):
         return [NO_ROOM]
     put_in_order(state, order_place(state, at), characters)
     return [n]
@@ -30,11 +29,21 @@ def put(state, at, characters):
 def take(state, at, n):
     if at < 0 or n < 0 or at + n > len(shown_marks(state)):
         return [WRONG]
-    if not has_room(state, 0, n):
+    if not has_own_room(state, 0, n):
         return [NO_ROOM]
     for mark in shown_marks(state)[at:at + n]:
         make_change(state, TAKES_OUT, mark, 0)
     return [n]
+
+
+# Own changes need numbers and stamps besides, as both are counted on here;
+# changes that are heard bring theirs along.
+def has_own_room(state, marks, changes):
+    if len(state.changes[state.who]) + changes > LAST_NUMBER:
+        return False
+    if state.largest_stamp + changes > LAST_STAMP:
+        return False
+    return has_room(state, marks, changes)
 
 
 # Marks that were taken out and follow the character before at are not passed:
@@ -55,7 +64,7 @@ def put_in_order(state, place, characters):
     target = state.order[place - 1] if place > 0 else BEGINNING
     marks = []
     for character in characters:
-        target = mark_of(make_change(state, PUTS, target, character))
+        target = number_of(make_change(state, PUTS, target, character))
         marks.append(target)
     state.order = state.order[:place] + marks + state.order[place:]
 

@@ -1,13 +1,13 @@
 """Words: a change's number, stamp and mark, the order of the marks, the room.
 
-What the calls can't show yet is looked at in what the copy keeps.
+What the calls can't show or reach is looked at in what the copy keeps.
 """
 
 import random
 import unittest
 
 from owncopies.reading import known, length, text
-from owncopies.state import BEGINNING, PUTS, TAKES_OUT, Change, State, learn, mark_of
+from owncopies.state import BEGINNING, PUTS, TAKES_OUT, Change, State, learn, number_of
 from owncopies.writing import new, put, take
 
 
@@ -24,7 +24,7 @@ def facts(state, who):
 def learn_at_the_end(state, change):
     learn(state, change)
     if change.kind == PUTS:
-        state.order.append(mark_of(change))
+        state.order.append(number_of(change))
 
 
 def text_by_the_words(state):
